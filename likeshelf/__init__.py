@@ -1,0 +1,1 @@
+"""Likeshelf: pictures kept by likeness told exactly."""
