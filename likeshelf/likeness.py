@@ -1,6 +1,6 @@
 """Likeness: how far two pictures are apart where one of them may be turned or mirrored."""
 
-from likeshelf.pictures import difference, divides, moved, small
+from likeshelf.pictures import difference, divides, moved, small, width
 
 # The order of the ways counts: of ways that are as near the first one is told.
 WAYS = {
@@ -35,5 +35,5 @@ def common_sizes(high, wide):
 
 def bounds(one, other, kind):
     """Tell (size, far) for each size of squares, the greatest first: how far the small ones are apart."""
-    sizes = common_sizes(len(one), len(one[0]))
+    sizes = common_sizes(len(one), width(one))
     return [(size, apart(small(one, size), small(other, size), kind)[0]) for size in sizes]

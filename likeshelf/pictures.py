@@ -16,12 +16,15 @@ def is_cell(number):
     return 0 <= number <= MOST_CELL
 
 
+def width(rows):
+    """Tell how many cells each row has, 0 where there is no row."""
+    return len(rows[0]) if rows else 0
+
+
 def is_picture(rows):
     """Tell whether lists of numbers are a picture."""
-    if not can_be_side(len(rows)):
-        return False
-    wide = len(rows[0])
-    if not can_be_side(wide):
+    wide = width(rows)
+    if not can_be_side(len(rows)) or not can_be_side(wide):
         return False
     return all([len(row) == wide and all([is_cell(cell) for cell in row]) for row in rows])
 
@@ -35,8 +38,8 @@ def need_picture(rows):
 def need_picture_of(rows, high, wide):
     """Refuse with BadPicture what is no picture of this height and width."""
     need_picture(rows)
-    if len(rows) != high or len(rows[0]) != wide:
-        raise BadPicture(f"a picture of {len(rows)} by {len(rows[0])}, not of {high} by {wide}")
+    if len(rows) != high or width(rows) != wide:
+        raise BadPicture(f"a picture of {len(rows)} by {width(rows)}, not of {high} by {wide}")
 
 
 def copied(rows):
@@ -51,7 +54,7 @@ def mirrored(rows):
 
 def turned(rows):
     """Tell the picture turned by a quarter to the left: the last column becomes the first row."""
-    return [[row[at] for row in rows] for at in range(len(rows[0]) - 1, -1, -1)]
+    return [[row[at] for row in rows] for at in range(width(rows) - 1, -1, -1)]
 
 
 def moved(rows, way):
@@ -85,7 +88,7 @@ def square_sum(rows, top, left, size):
 def small(rows, size):
     """Tell the rows of the sums of the squares of this size; BadPicture where it does not divide both sides."""
     high = len(rows)
-    wide = len(rows[0])
+    wide = width(rows)
     if not divides(size, high, wide):
         raise BadPicture(f"squares of {size} do not fill a picture of {high} by {wide}")
     return [

@@ -1,5 +1,7 @@
 """Pictures for the tests, and a second, slower telling of likeness to hold the program against."""
 
+from likeshelf.shelves import Shelf
+
 KINDS = {
     "plain": [(0, 0)],
     "half": [(0, 0), (2, 0)],
@@ -87,3 +89,65 @@ def tree_by_hand(kept, kind):
 def name_of(number):
     """Names aa, ab .. for as many pictures as are wanted."""
     return "abcdefghijklmnopqrstuvwxyz"[number // 26] + "abcdefghijklmnopqrstuvwxyz"[number % 26]
+
+
+def shelf_of(high, wide, kind, kept):
+    """A shelf of a list of (name, rows)."""
+    shelf = Shelf(high, wide, kind)
+    for name, rows in kept:
+        shelf.put(name, rows)
+    return shelf
+
+
+def line_of(*cells):
+    """A plain shelf of single cells, named a, b, c .. in their order."""
+    return shelf_of(1, 1, "plain", [(name, [[cell]]) for name, cell in zip("abcdefghijklmnopqrstuvwxyz", cells)])
+
+
+def full_shelf():
+    """A shelf of sixty pictures."""
+    return shelf_of(1, 2, "half", [(name_of(number), [[number, 0]]) for number in range(60)])
+
+
+def kept_of(shelf):
+    """The list of (name, rows) of a shelf."""
+    return [(name, shelf.picture(name)) for name in shelf.names()]
+
+
+def state(shelf):
+    """All that a shelf tells of itself."""
+    return kept_of(shelf), shelf.tree()
+
+
+def empty(shelf):
+    """Take all pictures out of a shelf."""
+    for name in shelf.names():
+        shelf.out(name)
+
+
+def sundry_shelves():
+    """Shelves of every kind and of several sizes and cells; some pictures were taken out and put again."""
+    for high, wide, most, many in [(1, 1, 255, 30), (2, 2, 2, 40), (2, 2, 255, 60), (2, 3, 1, 25), (6, 4, 9, 12)]:
+        for kind in KINDS:
+            if high != wide and kind in SQUARE_KINDS:
+                continue
+            kept = [(name_of(at), mixed(high, wide, at, most)) for at in range(many)]
+            shelf = shelf_of(high, wide, kind, kept)
+            for at in [0, 3, many - 2]:
+                shelf.out(name_of(at))
+            for at in [3, 0]:
+                shelf.put(name_of(at), mixed(high, wide, at + 200, most))
+            yield shelf
+
+
+def found_by_hand(shelf, asked):
+    """(name, far, way) of all pictures, the nearest first, of as near ones the first put."""
+    told = [(name, *apart_by_hand(asked, rows, shelf.kind)) for name, rows in kept_of(shelf)]
+    return sorted(told, key=lambda one: one[1])
+
+
+def fars_by_hand(shelf):
+    """How far every two pictures are apart, by their two names."""
+    kept = kept_of(shelf)
+    return {(one, other): apart_by_hand(one_rows, other_rows, shelf.kind)[0]
+            for one, one_rows in kept for other, other_rows in kept}

@@ -22,6 +22,26 @@ FUNCTIONS = {
         "apart": ["one", "other", "kind"],
         "bounds": ["one", "other", "kind"],
     },
+    "asking": {
+        "within": ["shelf", "rows", "span"],
+        "nearest": ["shelf", "rows", "many"],
+        "sieve": ["shelf", "rows", "span", "size"],
+    },
+    "bunches": {
+        "pairs": ["shelf", "span"],
+        "bunches": ["shelf", "span"],
+        "middle": ["shelf"],
+        "closest": ["shelf"],
+        "thinned": ["shelf", "span"],
+    },
+    "finding": {
+        "sums": ["rows"],
+        "places": ["rows", "little", "span"],
+    },
+    "notes": {
+        "written": ["shelf"],
+        "read": ["text"],
+    },
 }
 CLASSES = {
     "shelves": {

@@ -88,6 +88,11 @@ class Apart(unittest.TestCase):
                 self.assertEqual(difference(one, moved(other, way)), far)
                 self.assertEqual(apart(other, one, kind)[0], far)
 
+    def test_rows_without_cells_are_not_refused(self):
+        for kind in KINDS:
+            self.assertEqual(apart([], [], kind), (0, (0, 0)))
+            self.assertEqual(bounds([], [], kind), [])
+
     def test_greatest(self):
         self.assertEqual(apart(even(16, 16, 255), even(16, 16, 0), "all"), (65280, (0, 0)))
 

@@ -129,6 +129,15 @@ class Moving(unittest.TestCase):
         self.assertEqual(mirrored(rows), moved_by_hand(rows, (0, 1)))
         self.assertEqual(turned(rows), moved_by_hand(rows, (1, 0)))
 
+    def test_rows_without_cells_are_not_refused(self):
+        for rows in [[], [[]]]:
+            for way in [(0, 0), (0, 1), (2, 0)]:
+                self.assertIn(moved(rows, way), [[], [[]]])
+            self.assertEqual(turned(rows), [])
+            self.assertEqual(mirrored(rows), rows)
+            self.assertEqual(difference(rows, rows), 0)
+            self.assertEqual(small(rows, 1), rows)
+
 
 class Small(unittest.TestCase):
     def test_sums_of_squares(self):

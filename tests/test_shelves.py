@@ -5,28 +5,8 @@ import unittest
 
 from likeshelf.errors import BadName, BadPicture, BadShelf, Full, LikeError, Told, Unknown
 from likeshelf.shelves import Shelf
-from samples import KINDS, SQUARE_KINDS, even, mixed, name_of, tree_by_hand
-
-
-def line_of(*cells):
-    """A plain shelf of single cells, named a, b, c .. in their order."""
-    shelf = Shelf(1, 1, "plain")
-    for name, cell in zip("abcdefghijklmnopqrstuvwxyz", cells):
-        shelf.put(name, [[cell]])
-    return shelf
-
-
-def full_shelf():
-    """A shelf of sixty pictures."""
-    shelf = Shelf(1, 2, "half")
-    for number in range(60):
-        shelf.put(name_of(number), [[number, 0]])
-    return shelf
-
-
-def state(shelf):
-    """All that a shelf tells of itself."""
-    return shelf.names(), [shelf.picture(name) for name in shelf.names()], shelf.tree()
+from samples import (KINDS, SQUARE_KINDS, even, full_shelf, line_of, mixed, name_of, shelf_of, state,
+                     tree_by_hand)
 
 
 class Making(unittest.TestCase):
@@ -253,10 +233,8 @@ class Trees(unittest.TestCase):
             for kind in KINDS:
                 if high != wide and kind in SQUARE_KINDS:
                     continue
-                shelf = Shelf(high, wide, kind)
                 kept = [(name_of(at), mixed(high, wide, at, 2)) for at in range(40)]
-                for name, rows in kept:
-                    shelf.put(name, rows)
+                shelf = shelf_of(high, wide, kind, kept)
                 self.assertEqual(shelf.tree(), tree_by_hand(kept, kind))
                 for at in [0, 7, 12]:
                     name, rows = kept.pop(at)
