@@ -118,7 +118,8 @@ class Bunches(unittest.TestCase):
 
     def test_by_the_kind_of_the_shelf(self):
         self.assertEqual(by_kind(lambda shelf: bunches(shelf, 0)),
-                         {"plain": [["a"], ["b"]], "turn": [["a", "b"]], "mirror": [["a", "b"]], "half": [["a"], ["b"]]})
+                         {"plain": [["a"], ["b"]], "turn": [["a", "b"]], "mirror": [["a", "b"]],
+                          "half": [["a"], ["b"]]})
 
     def test_held_against_a_telling_by_hand(self):
         for shelf in sundry_shelves():

@@ -130,7 +130,8 @@ class Refused(unittest.TestCase):
     def test_picture_rows_that_are_not_so_by_themselves(self):
         bad = ["", " ", "picture", "picture ", " picture one", "picture  one", "picture one ", "picture one two",
                "Picture one", "pictures one", "shelf one", "one", "picture One", "picture on1", "picture abcdefghi",
-               "picture 1", "1 2 3", "picture\tone", "picture one\r", "picture \u00f6ne", "pictureone", "shelf 2 3 both"]
+               "picture 1", "1 2 3", "picture\tone", "picture one\r", "picture \u00f6ne", "pictureone",
+               "shelf 2 3 both"]
         for line in bad:
             for at in [1, 4]:
                 self.need_bad_row(with_row(at, line), at)
@@ -194,7 +195,8 @@ class Refused(unittest.TestCase):
         self.need_refused(text_of("shelf 1 1 plain", "picture a", "1", "picture a", "256"), Told)
         self.need_refused(text_of("shelf 1 1 plain", "picture a", "256", "picture a", "1"), BadPicture)
         self.need_refused(text_of("shelf 1 1 plain", "picture a", "1", "picture a", "1", "picture b", "256"), Told)
-        self.need_refused(text_of("shelf 1 1 plain", "picture a", "1", "picture b", "256", "picture a", "1"), BadPicture)
+        self.need_refused(text_of("shelf 1 1 plain", "picture a", "1", "picture b", "256", "picture a", "1"),
+                          BadPicture)
 
     def many(self, many):
         """The rows of a shelf of so many single cells."""
